@@ -67,10 +67,16 @@ type tree struct {
 
 func isJoint(kind int) bool { return kind == impl.TmSeq || kind == impl.TmPar }
 
-// leafTree reads the node with the index at as a leaf.
-func leafTree(nodes []impl.Node, at int) (tree, bool) {
+// leafTree reads the node with the index at as a leaf of a term of a library.
+func leafTree(lib []impl.Def, nodes []impl.Node, at int) (tree, bool) {
 	n := nodes[at]
 	leaf := tree{node: n, first: at, last: at}
+	for _, d := range lib {
+		if n.Kind == impl.TmName && n.Name == d.Name {
+			leaf.in, leaf.out = d.In, d.Out
+			return leaf, n.Value == 0
+		}
+	}
 	greatest := 0
 	switch n.Kind {
 	case impl.TmId:
@@ -87,20 +93,20 @@ func leafTree(nodes []impl.Node, at int) (tree, bool) {
 	return leaf, n.Value >= 0 && n.Value <= greatest && n.Name == ""
 }
 
-// readTree reads the part whose last node has the index last, from its end.
-func readTree(nodes []impl.Node, last int) (tree, bool) {
+// readTree reads the part of a term of a library whose last node has the index last, from its end.
+func readTree(lib []impl.Def, nodes []impl.Node, last int) (tree, bool) {
 	if last < 0 {
 		return tree{}, false
 	}
 	n := nodes[last]
 	if !isJoint(n.Kind) {
-		return leafTree(nodes, last)
+		return leafTree(lib, nodes, last)
 	}
-	b, isB := readTree(nodes, last-1)
+	b, isB := readTree(lib, nodes, last-1)
 	if !isB {
 		return tree{}, false
 	}
-	a, isA := readTree(nodes, b.first-1)
+	a, isA := readTree(lib, nodes, b.first-1)
 	if !isA || n.Value != 0 || n.Name != "" {
 		return tree{}, false
 	}
@@ -113,11 +119,14 @@ func readTree(nodes []impl.Node, last int) (tree, bool) {
 }
 
 // treeOf reads a term, and reports whether it is valid.
-func treeOf(t impl.Term) (tree, bool) {
+func treeOf(t impl.Term) (tree, bool) { return treeIn(nil, t) }
+
+// treeIn reads a term, and reports whether it is one of the library.
+func treeIn(lib []impl.Def, t impl.Term) (tree, bool) {
 	if len(t.Nodes) > maxNodes {
 		return tree{}, false
 	}
-	whole, ok := readTree(t.Nodes, len(t.Nodes)-1)
+	whole, ok := readTree(lib, t.Nodes, len(t.Nodes)-1)
 	if !ok || whole.first != 0 {
 		return tree{}, false
 	}
@@ -274,4 +283,25 @@ func smallTerms(p int) []impl.Term {
 		}
 	}
 	return terms
+}
+
+// nestedTerms returns all terms of a library with up to four of these leaves, in all nestings.
+func nestedTerms(lib []impl.Def, leaves []impl.Term) []impl.Term {
+	bySize := [][]impl.Term{nil, leaves}
+	for size := 2; size <= 4; size++ {
+		var terms []impl.Term
+		for left := 1; left < size; left++ {
+			for _, a := range bySize[left] {
+				for _, b := range bySize[size-left] {
+					for _, x := range []impl.Term{seqOf(a, b), parOf(a, b)} {
+						if _, ok := treeIn(lib, x); ok {
+							terms = append(terms, x)
+						}
+					}
+				}
+			}
+		}
+		bySize = append(bySize, terms)
+	}
+	return slices.Concat(bySize...)
 }

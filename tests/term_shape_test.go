@@ -235,27 +235,10 @@ func TestTidyTerms(t *testing.T) {
 	}
 }
 
-// TestNestedTidyTerms goes through all valid terms with up to four leaves out of a few, in all nestings.
 func TestNestedTidyTerms(t *testing.T) {
 	leaves := []impl.Term{idTerm(0), idTerm(1), idTerm(2), leafTerm(impl.TmCopy), leafTerm(impl.TmAdd), leafTerm(impl.TmZero)}
-	bySize := [][]impl.Term{nil, leaves}
-	for size := 2; size <= 4; size++ {
-		var terms []impl.Term
-		for left := 1; left < size; left++ {
-			for _, a := range bySize[left] {
-				for _, b := range bySize[size-left] {
-					for _, x := range []impl.Term{seqOf(a, b), parOf(a, b)} {
-						if isValidTerm(x) {
-							terms = append(terms, x)
-						}
-					}
-				}
-			}
-		}
-		bySize = append(bySize, terms)
-		for _, x := range terms {
-			checkTidy(t, x)
-		}
+	for _, x := range nestedTerms(nil, leaves) {
+		checkTidy(t, x)
 	}
 }
 
