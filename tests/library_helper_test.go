@@ -1,6 +1,7 @@
 package tests
 
 import (
+	"math"
 	"slices"
 	"strings"
 
@@ -84,7 +85,7 @@ func invalidLibraries() [][]impl.Def {
 		{full[0], full[0]}, {full[0], {Name: "twice", Body: idTerm(0)}}, {full[2]}, {full[2], full[0]},
 		{{Name: "b", In: 1, Out: 1, Body: twice}}, {full[0], {Name: "b", In: 1, Out: 1, Body: nameTerm("b")}},
 		{full[0], {Name: "b", In: 1, Out: 1, Body: termWith(impl.Node{Kind: impl.TmName, Name: "twice", Value: 1})}}, {full[0], {Name: "b", In: 1, Out: 1, Body: nameTerm("")}},
-		{{Name: "b", In: 2, Out: 1, Body: id}}, {{Name: "b", In: 1, Out: 2, Body: id}}, {{Name: "b", In: -1, Out: 1, Body: id}}, {{Name: "b", Body: id}}, {{Name: "b", In: 2, Out: 1, Body: leafTerm(impl.TmCopy)}}, {{}},
+		{{Name: "b", In: 2, Out: 1, Body: id}}, {{Name: "b", In: 1, Out: 2, Body: id}}, {{Name: "b", In: -1, Out: 1, Body: id}}, {{Name: "b", In: math.MaxInt, Out: math.MaxInt, Body: id}}, {{Name: "b", In: math.MinInt, Out: 1, Body: id}}, {{Name: "b", In: 1, Out: 1<<32 + 1, Body: id}}, {{Name: "b", Body: id}}, {{Name: "b", In: 2, Out: 1, Body: leafTerm(impl.TmCopy)}}, {{}},
 		slices.Repeat([]impl.Def{{Name: "b", In: 1, Out: 1, Body: id}}, 100000),
 	}
 	for _, name := range slices.Concat(leafNames[1:], []string{"", "longnames", "B", "bB", "9", "9b", "b b", " b", "b ", "b_", "b\n", "b;", "é", "b\x00", strings.Repeat("b", 100000)}) {
