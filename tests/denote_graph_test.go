@@ -107,16 +107,31 @@ func TestWideGraphs(t *testing.T) {
 	}
 }
 
+type openCase struct {
+	termCase
+	g impl.Graph
+}
+
+// casesWithGraphs returns terms without delays that have graphs, each one with its graph.
+func casesWithGraphs(t *testing.T) []openCase {
+	t.Helper()
+	var cases []openCase
+	for _, c := range staticCases() {
+		if g, ok := impl.GraphOf(c.t); ok {
+			cases = append(cases, openCase{c, g})
+		}
+	}
+	if len(cases) < 500 {
+		t.Fatal("there are but", len(cases), "terms with graphs")
+	}
+	return cases
+}
+
 // TestPairsComeWithValuations checks that the pairs of the relation of a term are those with a valuation of its graph.
 func TestPairsComeWithValuations(t *testing.T) {
 	source := rand.New(rand.NewPCG(8, 12))
-	graphs := 0
-	for _, c := range staticCases() {
-		g, ok := impl.GraphOf(c.t)
-		if !ok {
-			continue
-		}
-		graphs++
+	for _, c := range casesWithGraphs(t) {
+		g := c.g
 		r := relationOfTerm(t, c.p, c.t)
 		if same, ok := impl.DenoteGraph(c.p, g); !ok || !sameRelation(same, r) {
 			t.Fatal("relations of a term and of its graph", c, r, same, ok)
@@ -139,9 +154,6 @@ func TestPairsComeWithValuations(t *testing.T) {
 				t.Fatal("no valuation", c, v, is, ok)
 			}
 		}
-	}
-	if graphs < 100 {
-		t.Error("there are but", graphs, "terms with graphs")
 	}
 }
 
